@@ -1,0 +1,1 @@
+"""A lorry driver's hours."""
