@@ -44,6 +44,12 @@ def spells_of(stretches):
     return spells
 
 
+# The driving, and whether a first part was had.
+def since_whole_break(stretches):
+    spell = spells_of(stretches)[-1]
+    return [spell.driving, 1 if spell.had_first_part else 0]
+
+
 def missed_breaks(stretches):
     broken = []
     for spell in spells_of(stretches):

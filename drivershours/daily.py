@@ -18,6 +18,8 @@ SHORT = 1
 TOO_SHORT = 2
 UNDECIDED = 3
 
+NO_DAY = -1
+
 
 class Day:
     def __init__(self, start):
@@ -71,6 +73,14 @@ def days_of(stretches):
             if kind == DRIVING:
                 day.driving += stop - start
     return days
+
+
+# The beginning of the day that is not ended, and the driving in it.
+def day_going_on(days):
+    if len(days) == 0 or days[-1].ended:
+        return [NO_DAY, 0]
+    day = days[-1]
+    return [day.start, day.driving]
 
 
 def overdriven_days(days):

@@ -1,13 +1,14 @@
 """One driver: what is told, and the calls about it."""
 
-from drivershours.breaks import missed_breaks
-from drivershours.daily import days_of, overdriven_days, surplus_short_rests, too_short_rests
+from drivershours.breaks import missed_breaks, since_whole_break
+from drivershours.daily import day_going_on, days_of, overdriven_days, surplus_short_rests, too_short_rests
 from drivershours.stretch import OTHER_WORK, REST, end_of, stretches_of
 from drivershours.weekly import late_weekly_rests, twice_short_weekly_rests, weekly_rests_not_made_up_for
-from drivershours.weeks import overdriven_weeks
+from drivershours.weeks import driving_in_week, overdriven_weeks, week_going_on
 
 MOST_TOLD = 400
 MOST_MINUTES = 20000
+LAST_WEEK = 1000
 NOT_ALLOWED = -1
 TOO_MANY = -5
 
@@ -71,3 +72,25 @@ class Driver:
         for minute, rule, minutes in broken:
             numbers.extend([rule, minute, minutes])
         return numbers
+
+    def now(self):
+        stretches = stretches_of(self.told)
+        end = end_of(self.told)
+        numbers = [end]
+        numbers.extend(since_whole_break(stretches))
+        numbers.extend(day_going_on(days_of(stretches)))
+        numbers.extend(week_going_on(stretches, end))
+        return numbers
+
+    def days(self):
+        end = end_of(self.told)
+        days = days_of(stretches_of(self.told))
+        numbers = [len(days)]
+        for day in days:
+            numbers.extend([day.start, day.driving, day.counted_rest(), day.rest_kind(end)])
+        return numbers
+
+    def week(self, k):
+        if not 0 <= k <= LAST_WEEK:
+            return [NOT_ALLOWED]
+        return [driving_in_week(stretches_of(self.told), k)]

@@ -27,6 +27,22 @@ def share_out(driven, start, stop):
         at = till
 
 
+# Weeks that have not begun have no driving, nor has the one ahead of the first.
+def driving_in_week(stretches, week):
+    driven = driving_by_week(stretches)
+    if 0 <= week < len(driven):
+        return driven[week]
+    return 0
+
+
+# The driving in the week in which the end lies, and in that and the one before.
+# An end on the border of two weeks lies in the later one: that begins there.
+def week_going_on(stretches, end):
+    week = end // WEEK
+    driving = driving_in_week(stretches, week)
+    return [driving, driving_in_week(stretches, week - 1) + driving]
+
+
 def overdriven_weeks(stretches):
     broken = []
     before = 0

@@ -6,6 +6,8 @@ REST, DRIVING, OTHER = 0, 1, 2
 
 BEGIN = [1]
 REPORT = [4]
+NOW = [5]
+DAYS = [6]
 
 
 def add(*numbers):
@@ -14,6 +16,10 @@ def add(*numbers):
 
 def drop(n):
     return [3, n]
+
+
+def week(k):
+    return [7, k]
 
 
 def said(*calls):
@@ -33,11 +39,39 @@ def rows_of(report):
     return [tuple(report[at:at + 3]) for at in range(1, len(report), 3)]
 
 
+def told(numbers):
+    """The adds that tell these stretches, as many as it takes."""
+    return [add(*numbers[at:at + 400]) for at in range(0, len(numbers), 400)]
+
+
+def answered(call, numbers):
+    """What this call answers once these stretches are told."""
+    *ends, last = said(*told(numbers), call)
+    assert all(end[0] >= 0 for end in ends)
+    return last
+
+
 def broken(*numbers, rule=None):
     """What is broken once these stretches are told, of one rule or of all."""
-    adds = [add(*numbers[at:at + 400]) for at in range(0, len(numbers), 400)]
-    rows = rows_of(said(*adds, REPORT)[-1])
+    rows = rows_of(answered(REPORT, numbers))
     return [row for row in rows if rule is None or row[0] == rule]
+
+
+def now(*numbers):
+    """What now answers once these stretches are told."""
+    return answered(NOW, numbers)
+
+
+def days(*numbers):
+    """The (beginning, driving, counted, kind of rest) of each day once these stretches are told."""
+    given = answered(DAYS, numbers)
+    assert len(given) == 1 + 4 * given[0]
+    return [tuple(given[at:at + 4]) for at in range(1, len(given), 4)]
+
+
+def driving_in(k, *numbers):
+    """The driving in calendar week k once these stretches are told."""
+    return answered(week(k), numbers)
 
 
 def filled(kind, minutes):

@@ -12,21 +12,34 @@ class TheList(unittest.TestCase):
             answers([1, 2, 4, 1, 271, 0, 9, 3, 1, 4, 3, 9]),
             [1, 0, 1, 280, 1, 271, 4, 1, 1, 270, 1, 1, -1])
 
+    def test_now_days_and_week_in_the_list(self):
+        self.assertEqual(
+            answers([5, 6, 7, 0, 2, 8, 0, 9, 1, 100, 0, 600, 2, 5, 5, 6, 7, 0, 7, -1, 7, 1001]),
+            [7, 0, 0, 0, -1, 0, 0, 0, 1, 0, 1, 0, 1, 714,
+             7, 714, 0, 0, 709, 0, 100, 100, 9, 2, 9, 100, 600, 1, 709, 0, 0, 3, 1, 100, 1, -1, 1, -1])
+
+    def test_the_number_of_a_week_is_not_taken_for_a_call(self):
+        self.assertEqual(said(add(DRIVING, 7), [7, 5], [7, 4], [7, 1], [7, 7], [7, 0]), [[7], [0], [0], [0], [0], [7]])
+
     def test_calls_in_any_order_and_without_a_begin(self):
         self.assertEqual(answers([4]), [1, 0])
         self.assertEqual(answers([3, 0]), [1, 0])
         self.assertEqual(answers([2, 2, 0, 7]), [1, 7])
+        self.assertEqual(answers([5]), [7, 0, 0, 0, -1, 0, 0, 0])
+        self.assertEqual(answers([6]), [1, 0])
+        self.assertEqual(answers([7, 3]), [1, 0])
 
     def test_numbers_of_a_row_are_not_taken_for_calls(self):
         self.assertEqual(said([2, 4, 1, 4, 2, 3], REPORT), [[7], [0]])
         self.assertEqual(said([2, 3, 4, 4, 4], REPORT), [[-1], [0]])
+        self.assertEqual(said([2, 6, 1, 5, 2, 6, 0, 7], REPORT), [[18], [0]])
 
     def test_sixty_calls(self):
         calls = [1] * 59 + [4]
         self.assertEqual(answers(calls), [1, 0] * 60)
 
     def test_what_is_handed_in_is_not_changed(self):
-        calls = [2, 6, 1, 271, 0, 9, 0, 9, 4, 3, 1, 4, 2, 1, 5, 1, 4]
+        calls = [2, 6, 1, 271, 0, 9, 0, 9, 4, 5, 6, 7, 0, 3, 1, 4, 7, -1, 2, 1, 5, 5, 6, 1, 4]
         kept = copy.deepcopy(calls)
         answers(calls)
         self.assertEqual(calls, kept)
@@ -34,10 +47,11 @@ class TheList(unittest.TestCase):
     def test_nothing_is_kept_from_one_time_to_the_next(self):
         first = answers([2, 2, 1, 300, 4])
         self.assertEqual(answers([2, 2, 1, 300, 4]), first)
-        self.assertEqual(answers([4, 3, 0]), [1, 0, 1, 0])
+        self.assertEqual(answers([4, 3, 0, 6, 7, 0]), [1, 0] * 4)
+        self.assertEqual(answers([5]), [7, 0, 0, 0, -1, 0, 0, 0])
 
     def test_the_answer_is_a_new_list_of_plain_whole_numbers(self):
-        calls = [2, 2, 1, 300, 4]
+        calls = [2, 4, 1, 300, 0, 20, 4, 5, 6, 7, 0]
         first = answers(calls)
         first.append(7)
         second = answers(calls)

@@ -115,6 +115,24 @@ class Form(unittest.TestCase):
                 if isinstance(node, ast.Call) and isinstance(node.func, ast.Attribute):
                     self.assertIn(node.func.attr, list(own) + OWN_METHODS, name)
 
+    def test_no_name_is_a_method_and_a_value(self):
+        methods = {node.name for _, tree in self.trees for made in tree.body if isinstance(made, ast.ClassDef)
+                   for node in made.body}
+        values = {node.attr for _, tree in self.trees for node in ast.walk(tree)
+                  if isinstance(node, ast.Attribute) and isinstance(node.ctx, ast.Store)}
+        self.assertEqual(methods & values, set())
+
+    def test_no_file_draws_from_one_that_draws_from_it(self):
+        draws = {}
+        for name, tree in self.trees:
+            draws["drivershours." + name[:-3]] = {
+                node.module for node in ast.walk(tree) if isinstance(node, ast.ImportFrom)}
+        while draws:
+            free = [name for name in draws if not draws[name] & set(draws)]
+            self.assertNotEqual(free, [], draws)
+            for name in free:
+                del draws[name]
+
 
 if __name__ == "__main__":
     unittest.main()
